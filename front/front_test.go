@@ -513,6 +513,9 @@ func TestPrintNot(t *testing.T) { // P17.2: there is no text of such a tree
 			t.Error("the first", i, e)
 		}
 	}
+}
+
+func TestPrintNone(t *testing.T) { // P17.2: nor of these
 	for i, c := range []api.Source{
 		nil, {}, {{Kind: api.ENum}}, {{Kind: api.DAll, Text: "x"}}, {{Kind: api.DAll, N: 1}}, {{Kind: api.DAll, M: 1}},
 		{{Kind: api.DVar, Text: "x"}, {Kind: api.DAll, Kids: []int{0}}},
@@ -530,6 +533,9 @@ func TestPrintNot(t *testing.T) { // P17.2: there is no text of such a tree
 			t.Error(i, s, e)
 		}
 	}
+}
+
+func TestPrintNodes(t *testing.T) { // P17.2: MaxNodes
 	many := api.Source{}
 	var kids []int
 	for i := range 4096 {

@@ -127,6 +127,10 @@ func rows() []string {
 		"int n[4];int f(int*p,int*q){p[0]=q[1]+1;q[2]=p[0]*2;return p[0]+q[2];}int main(){n[1]=5;return f(n+3,n)*10+n[3];}",
 		"int main(){return adr(\"ab\")-adr(\"ab\")+(0-5)%3+-7/2+(-8>>1)+(1<<63)/-1;}",
 		"int main(){}", "int main(){return 0-1;}", "int main(){exit(0-9223372036854775807-1);}",
+		"int f(int n){if(n)return 1+f(n-1);return 0;}int main(){return f(18);}", // 1600 bytes of stack
+		"int f(int n){" + strings.Replace(vars, "int v0=0;", "", 1) + "if(n)return f(n-1)+f(n-1)" + strings.TrimPrefix(sum, "0+v0") + ";return n;}int main(){return f(4);}",
+		"int a[492];int main(){a[491]=7;a[0]=3;int i=491;return a[i]*10+a[i-491];}", // a room of 4000 bytes
+		"char a[1];char b[511];int c[400];char d[128];int main(){d[127]=7;a[0]=3;c[399]=9;return d[get()+30]*10+a[0]+c[get()+301];}",
 		"int x;int f(){return x;}int main(){return x*f()+f();}",
 		"int main(){int a=1;{int b=2;{int c=a+b;a=c;}}if(a>2)int d=5;return a+d;}",
 	}

@@ -65,7 +65,10 @@ func (m *maker) ptr(deep int) string {
 }
 
 func (m *maker) call(deep int) string {
-	f := m.funs[m.r.Intn(len(m.funs))]
+	return m.callOf(m.funs[m.r.Intn(len(m.funs))], deep)
+}
+
+func (m *maker) callOf(f fun, deep int) string {
 	var args []string
 	for _, p := range f.params {
 		switch p {
@@ -167,17 +170,7 @@ func (m *maker) stmt(deep int) {
 		}
 	case 10:
 		if deep > 0 {
-			v := m.fresh()
-			m.say("int %s=%d;while(%s)", v, 1+m.r.Intn(4), []string{v, v + ">0", v + "!=0&&" + v + "<9", "0<" + v, "1"}[m.r.Intn(5)])
-			m.fixed[v] = true
-			m.ints = append(m.ints, v)
-			m.loops++
-			m.say("{%s=%s-1;if(%s<=0)break;", v, v, v)
-			for range m.r.Intn(3) {
-				m.stmt(deep - 1)
-			}
-			m.say("}")
-			m.loops--
+			m.loop(deep)
 		}
 	case 11:
 		if m.r.Intn(8) == 0 && deep < 3 {
@@ -190,6 +183,21 @@ func (m *maker) stmt(deep int) {
 			m.say("if(%s)%s;", m.expr(1), []string{"break", "continue"}[m.r.Intn(2)])
 		}
 	}
+}
+
+// loop is one that ends.
+func (m *maker) loop(deep int) {
+	v := m.fresh()
+	m.say("int %s=%d;while(%s)", v, 1+m.r.Intn(4), []string{v, v + ">0", v + "!=0&&" + v + "<9", "0<" + v, "1"}[m.r.Intn(5)])
+	m.fixed[v] = true
+	m.ints = append(m.ints, v)
+	m.loops++
+	m.say("{%s=%s-1;if(%s<=0)break;", v, v, v)
+	for range m.r.Intn(3) {
+		m.stmt(deep - 1)
+	}
+	m.say("}")
+	m.loops--
 }
 
 // program is one; its functions call those ahead of them alone, or themselves with less.
@@ -234,7 +242,7 @@ func (m *maker) program() string {
 		m.stmt(3)
 	}
 	for _, f := range m.funs {
-		m.say("put(%s);", strings.ReplaceAll(m.call(1), "f9", f.name))
+		m.say("put(%s);", m.callOf(f, 1))
 	}
 	m.say("put(g0);put(g1>>9);put(cs0[%d]);put(cs1[%d]);put(ns0[%d]);return %s;}", m.r.Intn(8), m.r.Intn(8), m.r.Intn(4), m.expr(2))
 	return m.out.String()

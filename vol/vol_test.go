@@ -484,52 +484,64 @@ func TestExamples(t *testing.T) { // P8.4, P8.5
 	is(t, "Write", v.Write(n, 400, "x"), api.ErrArg)
 }
 
+// model is what files should have: now, and at the last commit.
+type model struct {
+	files, kept map[int]string
+}
+
+func clone(m map[int]string) map[int]string {
+	out := map[int]string{}
+	for n, s := range m {
+		out[n] = s
+	}
+	return out
+}
+
+// act does something by chance to a volume and to the model.
+func (m *model) act(t *testing.T, r *rand.Rand, l *log.Log, v *Vol) {
+	n := r.Intn(8)
+	s, there := m.files[n]
+	switch r.Intn(7) {
+	case 0:
+		if n, e := v.New(1 + r.Intn(2)); e == api.OK {
+			m.files[n] = ""
+		}
+	case 1, 2, 3:
+		off, more := r.Intn(len(s)+1), text(r.Intn(513))
+		if e := v.Write(n, off, more); e == api.OK {
+			m.files[n] = s[:off] + more + s[min(len(s), off+len(more)):]
+		} else if there && e != api.ErrFull && e != api.ErrMany {
+			t.Fatal(e)
+		}
+	case 4:
+		if size := r.Intn(len(s) + 1); v.Cut(n, size) == api.OK {
+			m.files[n] = s[:size]
+		}
+	case 5:
+		if v.Free(n) == api.OK {
+			delete(m.files, n)
+		}
+	case 6:
+		if r.Intn(3) == 0 {
+			l.Abort()
+			m.files = clone(m.kept)
+		} else {
+			ok(t, l.Commit())
+			m.kept = clone(m.files)
+		}
+	}
+}
+
 // TestModel: whatever is done, files have what was written, and the volume is whole.
 func TestModel(t *testing.T) { // P8.6
 	for seed := range int64(12) {
 		r := rand.New(rand.NewSource(seed))
 		d, l, v := fresh(t, 48+r.Intn(120))
-		files, kept := map[int]string{}, map[int]string{}
+		m := &model{map[int]string{}, map[int]string{}}
 		for range 300 {
-			n := r.Intn(8)
-			s, there := files[n]
-			switch r.Intn(7) {
-			case 0:
-				if n, e := v.New(1 + r.Intn(2)); e == api.OK {
-					files[n] = ""
-				}
-			case 1, 2, 3:
-				off, more := r.Intn(len(s)+1), text(r.Intn(513))
-				if e := v.Write(n, off, more); e == api.OK {
-					files[n] = s[:off] + more + s[min(len(s), off+len(more)):]
-				} else if there && e != api.ErrFull && e != api.ErrMany {
-					t.Fatal(e)
-				}
-			case 4:
-				if size := r.Intn(len(s) + 1); v.Cut(n, size) == api.OK {
-					files[n] = s[:size]
-				}
-			case 5:
-				if v.Free(n) == api.OK {
-					delete(files, n)
-				}
-			case 6:
-				if r.Intn(3) == 0 {
-					l.Abort()
-					files = map[int]string{}
-					for n, s := range kept {
-						files[n] = s
-					}
-				} else {
-					ok(t, l.Commit())
-					kept = map[int]string{}
-					for n, s := range files {
-						kept[n] = s
-					}
-				}
-			}
+			m.act(t, r, l, v)
 			for n := range 32 {
-				s, there := files[n]
+				s, there := m.files[n]
 				got, e := v.Read(n, 0, 9999)
 				if there != (e == api.OK) || got != s {
 					t.Fatal(seed, n, e)
@@ -545,7 +557,7 @@ func TestModel(t *testing.T) { // P8.6
 		ok(t, e)
 		w, e := Mount(l)
 		ok(t, e)
-		for n, s := range files {
+		for n, s := range m.files {
 			if got, e := w.Read(n, 0, 9999); got != s || e != api.OK {
 				t.Fatal(seed, n, e)
 			}
